@@ -5,6 +5,7 @@ import (
 	"strings"
 
 	"concordat/api"
+	"concordat/number"
 )
 
 const (
@@ -24,13 +25,13 @@ func (v Vector) Text() string {
 // Read a vector.
 func Read(s string) (Vector, error) {
 	// One piece more than a vector has shows that there are too many: a long text needs no more.
-	numbers := strings.SplitN(s, between, api.Replicas+1)
-	if len(numbers) != api.Replicas {
+	parts := strings.SplitN(s, between, api.Replicas+1)
+	if len(parts) != api.Replicas {
 		return Vector{}, api.ErrText
 	}
 	var v Vector
-	for i, number := range numbers {
-		n, ok := readNumber(number)
+	for i, part := range parts {
+		n, ok := number.Read(part, maxDigits)
 		if !ok {
 			return Vector{}, api.ErrText
 		}
@@ -41,19 +42,4 @@ func Read(s string) (Vector, error) {
 		return Vector{}, err
 	}
 	return v, nil
-}
-
-func readNumber(s string) (int, bool) {
-	if len(s) < 1 || len(s) > maxDigits || s[0] == '0' && len(s) > 1 {
-		return 0, false
-	}
-	n := 0
-	for i := range len(s) {
-		digit := s[i]
-		if digit < '0' || digit > '9' {
-			return 0, false
-		}
-		n = n*10 + int(digit-'0')
-	}
-	return n, true
 }
