@@ -115,14 +115,15 @@ func TestDeletedOnTheWay(t *testing.T) {
 	for n := range shapes(4) {
 		l := shape(n, 4)
 		eachOrder(nil, l, func(order []put) {
-			// Each letter is deleted behind as many others as two bits say; 3: never.
-			for when := range 1 << (2 * len(order)) {
+			// Each letter's digit says how many others come between it and its being deleted; with more than there are it stays.
+			for when := range 5 * 5 * 5 * 5 {
+				digits := []int{when % 5, when / 5 % 5, when / 25 % 5, when / 125}
 				x := line.New()
 				var gone []int
 				for i, p := range order {
 					insert(t, x, p)
 					for k, q := range order[:i+1] {
-						if when>>(2*k)&3 == i-k && i-k < 3 {
+						if digits[k] == i-k {
 							remove(t, x, q.id, q.id)
 							gone = append(gone, q.id)
 						}
