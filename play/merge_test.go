@@ -115,3 +115,15 @@ func TestMergeOnlyReads(t *testing.T) {
 		}
 	}
 }
+
+// Bare: what has a place loses it; what has none stays.
+func TestBare(t *testing.T) {
+	for _, err := range []error{api.ErrGap, &api.Fault{At: 3, Err: api.ErrGap}} {
+		if got := play.Bare(err); got != api.ErrGap {
+			t.Errorf("Bare(%#v): %#v", err, got)
+		}
+	}
+	if err := play.Bare(nil); err != nil {
+		t.Errorf("Bare(nil): %v", err)
+	}
+}
