@@ -32,7 +32,7 @@ func checkMove(o api.Op, id int) error {
 	// Its own id is a node too: one that it makes.
 	case o.Node == api.Root, o.Node == api.Trash, !isEarlier(o.Node, id) && o.Node != id, !isEarlier(o.Other, id):
 		return api.ErrShape
-	case !isName(o.Name):
+	case !IsName(o.Name):
 		return api.ErrName
 	case o.Value != "":
 		return api.ErrShape
@@ -68,7 +68,7 @@ func checkSet(o api.Op, id int) error {
 	switch {
 	case !isEarlier(o.Node, id), o.Other != 0:
 		return api.ErrShape
-	case !isName(o.Name):
+	case !IsName(o.Name):
 		return api.ErrName
 	case len(o.Value) > api.MaxName, !isPrintable(o.Value):
 		return api.ErrShape
@@ -79,7 +79,8 @@ func checkSet(o api.Op, id int) error {
 // isEarlier: may what has the number n have been there ahead of the operation of this id?
 func isEarlier(n, id int) bool { return n >= 0 && n < id }
 
-func isName(s string) bool {
+// IsName: may a node, or a mark, have this name?
+func IsName(s string) bool {
 	if len(s) < 1 || len(s) > api.MaxName {
 		return false
 	}

@@ -127,6 +127,16 @@ func TestNames(t *testing.T) {
 			}
 		}
 	}
+	for _, name := range right {
+		if !op.IsName(name) {
+			t.Errorf("no name: %q", name)
+		}
+	}
+	for _, name := range wrong {
+		if op.IsName(name) {
+			t.Errorf("a name: %q", name)
+		}
+	}
 	for _, o := range []api.Op{rightMove(), rightSet()} {
 		for _, name := range right {
 			holdCheck(t, with(o, func(o *api.Op) { o.Name = name }), nil)
